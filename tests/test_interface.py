@@ -1,0 +1,103 @@
+"""The names, parameters and kinds of the interface, as far as it has landed."""
+
+import ast
+import importlib
+import inspect
+import os
+import unittest
+
+ROOT = os.path.join(os.path.dirname(os.path.abspath(__file__)), "..", "fewbreak")
+
+FUNCTIONS = {
+    "letters": {"is_name": "(text)", "read_letters": "(text)"},
+    "runs": {"is_run": "(letters, run)", "run_text": "(run)", "read_run": "(letters, text)",
+             "run_key": "(letters, run)", "told_lot": "(letters, lot)", "lot_text": "(letters, lot)",
+             "read_lot": "(letters, text)"},
+    "sides": {"many_columns": "(letters, tapes)", "check_tapes": "(letters, tapes)", "columns": "(letters, tapes)",
+              "column_place": "(letters, column)", "column_at": "(letters, tapes, place)", "columns_of": "(row)",
+              "is_filled": "(found)", "runs_of": "(found, tapes)", "row_key": "(letters, row)"},
+    "machinetexts": {"read_machine": "(letters, text, *, machine_name='made')", "machine_text": "(machine)"},
+    "least": {"least": "(machine)", "is_least": "(machine)", "like": "(one, other)"},
+    "combine": {"joined": "(one, other)", "met": "(one, other)", "less": "(one, other)", "turned": "(machine)",
+                "any_row": "(letters, tapes)", "no_row": "(letters, tapes)", "only_row": "(letters, row)"},
+    "choosing": {"chosen": "(machine, tapes, picks)", "dropped": "(machine, tape)"},
+    "rows": {"first_row": "(machine)", "taken_rows": "(machine, length=3)", "count_rows": "(machine, length=3)"},
+    "programtexts": {"read_program": "(read, write, text, *, program_name='made')"},
+    "looks": {"narrowed": "(letters, names)", "look": "(letters, names)", "blot": "(letters, name)",
+              "behind_each_other": "(first, second)"},
+    "passing": {"behind": "(program, machine)", "passed": "(program, machine)"},
+}
+METHODS = {
+    "letters": {"Letters": {
+        "__init__": "(self, *parts)", "listed": "(self)", "is_letter": "(self, text)", "place": "(self, letter)",
+        "signs_of": "(self, name)", "seen": "(self, letter, names)", "__str__": None, "__repr__": None, "__eq__": None,
+        "__len__": None, "__contains__": None}},
+    "machines": {"Machine": {
+        "__init__": "(self, letters, tapes, rows, ends, *, machine_name='made')", "standings": "property",
+        "next_of": "(self, standing, column)", "is_end": "(self, standing)", "reached": "(self, row)",
+        "takes": "(self, row)", "named": "(self, name)", "__repr__": None, "__eq__": None, "__len__": None,
+        "__contains__": None}},
+    "programs": {"Program": {
+        "__init__": "(self, read, write, rows, ends, *, program_name='made')", "standings": "property",
+        "line_of": "(self, standing, letter)", "is_end": "(self, standing)", "written": "(self, run)",
+        "written_lot": "(self, lot)", "__repr__": None, "__eq__": None, "__len__": None}},
+}
+GENERATORS = {("sides", "columns"), ("rows", "taken_rows")}
+
+
+def defined(module):
+    """The names that are defined in a file by def or class, and those of the methods in the bodies of classes."""
+    with open(os.path.join(ROOT, module + ".py"), encoding="utf-8") as file:
+        tree = ast.parse(file.read())
+    found = {}
+    for node in tree.body:
+        if isinstance(node, ast.FunctionDef):
+            found[node.name] = ()
+        if isinstance(node, ast.ClassDef):
+            found[node.name] = {part.name for part in node.body if isinstance(part, ast.FunctionDef)}
+    return found
+
+
+class InterfaceTest(unittest.TestCase):
+    def test_functions(self):
+        for module, functions in FUNCTIONS.items():
+            held = importlib.import_module("fewbreak." + module)
+            for name, parameters in functions.items():
+                self.assertIn(name, defined(module))
+                self.assertEqual(str(inspect.signature(getattr(held, name))), parameters, name)
+
+    def test_generators(self):
+        for module, functions in FUNCTIONS.items():
+            held = importlib.import_module("fewbreak." + module)
+            for name in functions:
+                made = inspect.isgeneratorfunction(getattr(held, name))
+                self.assertEqual(made, (module, name) in GENERATORS, name)
+
+    def test_methods(self):
+        for module, classes in METHODS.items():
+            held = importlib.import_module("fewbreak." + module)
+            for class_name, methods in classes.items():
+                for name, parameters in methods.items():
+                    self.assertIn(name, defined(module)[class_name])
+                    method = vars(getattr(held, class_name))[name]
+                    if parameters == "property":
+                        self.assertIsInstance(method, property)
+                    elif parameters is not None:
+                        self.assertEqual(str(inspect.signature(method)), parameters, name)
+
+    def test_errors_are_defined_in_their_file(self):
+        errors = importlib.import_module("fewbreak.errors")
+        self.assertEqual({name for name in vars(errors) if not name.startswith("__")}, set(defined("errors")))
+
+    def test_by_name(self):
+        """Each parameter may be passed by its name."""
+        letters = importlib.import_module("fewbreak.letters").read_letters(text="s:01")
+        sides = importlib.import_module("fewbreak.sides")
+        self.assertEqual(sides.column_at(place=1, tapes=1, letters=letters), ("1",))
+        self.assertEqual(letters.seen(names=["s"], letter="1"), "1")
+        made = importlib.import_module("fewbreak.combine").any_row(tapes=1, letters=letters)
+        self.assertEqual(list(importlib.import_module("fewbreak.rows").taken_rows(length=0, machine=made)), [[()]])
+
+
+if __name__ == "__main__":
+    unittest.main()
