@@ -1,7 +1,7 @@
 """Machines with other tapes: chosen by picks, or with a tape dropped."""
 
 from fewbreak.errors import BadNumber, UnlikeTapes
-from fewbreak.least import least, least_of
+from fewbreak.least import Rough, least, least_from, least_of, rough_of
 from fewbreak.sides import check_tapes, code_place, column_codes
 from fewbreak.walks import determined, ends_ahead
 
@@ -15,18 +15,32 @@ def _check_picks(machine, tapes, picks):
             raise BadNumber(pick)
 
 
+def picked(rough, tapes, picks):
+    """The rough machine that takes a row if the old one takes the row of the runs at the picked tapes."""
+    items = list(range(len(rough.letters) + 1))
+    weights = [0] * tapes
+    weight = 1
+    for pick in picks[::-1]:
+        weights[pick] += weight
+        weight = weight * len(items)
+    codes = [0]
+    for tape_weight in weights:
+        codes = [code + item * tape_weight for code in codes for item in items]
+    # where no picked run has a letter, the old machine has read its row to the end
+    over = len(rough.rows[0])
+    classes = [over if code == 0 else rough.classes[code - 1] for code in codes[1:]]
+    taken = len(rough.rows)
+    lost = taken + 1
+    rows = [list(row) + [taken if end else lost] for row, end in zip(rough.rows, rough.ends)]
+    rows.extend([[taken] * (over + 1), [lost] * (over + 1)])
+    return Rough(rough.letters, tapes, classes, rows, list(rough.ends) + [True, False])
+
+
 def chosen(machine, tapes, picks):
     """The machine that takes a row if the old machine takes the row of the runs at the picked tapes."""
     check_tapes(machine.letters, tapes)
     _check_picks(machine, tapes, picks)
-    places = []
-    for code in column_codes(machine.letters, tapes):
-        places.append(code_place(machine.letters, [code[pick] for pick in picks]))
-    rows = []
-    for standing, row in enumerate(machine.rows):
-        # where no picked run has a letter, the old machine has read its row to the end
-        rows.append([standing if place < 0 else row[place] for place in places])
-    return least_of(machine.letters, tapes, rows, machine.ends)
+    return least_from(picked(rough_of(machine), tapes, picks))
 
 
 def dropped(machine, tape):

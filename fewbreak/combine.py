@@ -1,10 +1,12 @@
 """Machines made from one or two others by what they take together."""
 
 from fewbreak.errors import BadRun, UnlikeParts, UnlikeTapes
-from fewbreak.least import least_of
+from fewbreak.least import Rough, aligned, least_from, least_of, rough_of, rough_turned, trimmed
 from fewbreak.runs import is_run
 from fewbreak.sides import check_tapes, column_place, columns_of, many_columns
 from fewbreak.walks import walked
+
+WON = ()
 
 
 def _check_alike(one, other):
@@ -15,27 +17,58 @@ def _check_alike(one, other):
         raise UnlikeTapes(one.tapes, other.tapes)
 
 
-def _side_by_side(one, other, is_end):
-    """The machine that reads like two machines; a pair of their standings is an end if is_end says so of their ends."""
-    _check_alike(one, other)
-    keys, rows = walked((0, 0), lambda key: list(zip(one.rows[key[0]], other.rows[key[1]])))
-    ends = [is_end(one.ends[left], other.ends[right]) for left, right in keys]
-    return least_of(one.letters, one.tapes, rows, ends)
+def _won(table, ends):
+    """For each standing, whether it is an end that is never left."""
+    return [end and row.count(standing) == len(row) for standing, (row, end) in enumerate(zip(table, ends))]
+
+
+def any_of(letters, tapes, parts):
+    """The rough machine that takes what at least one of some rough machines takes."""
+    if not parts:
+        return Rough(letters, tapes, [0] * many_columns(letters, tapes), [[0]], [False])
+    classes, firsts, tables = aligned(parts)
+    wons = [_won(table, part.ends) for table, part in zip(tables, parts)]
+    known = {}
+
+    def key_of(target):
+        if target not in known:
+            # one machine that will take is enough, whatever the others do
+            won = any([flags[standing] for flags, standing in zip(wons, target)])
+            known[target] = WON if won else target
+        return known[target]
+
+    def nexts_of(key):
+        if key == WON:
+            return [WON] * len(firsts)
+        rows = [table[standing] for table, standing in zip(tables, key)]
+        return [key_of(target) for target in zip(*rows)]
+
+    keys, found = walked(key_of((0,) * len(parts)), nexts_of)
+    ends = [key == WON or any([part.ends[standing] for part, standing in zip(parts, key)]) for key in keys]
+    return trimmed(Rough(letters, tapes, classes, found, ends))
+
+
+def every_of(letters, tapes, parts):
+    """The rough machine that takes what all of some rough machines take."""
+    return rough_turned(any_of(letters, tapes, [rough_turned(part) for part in parts]))
 
 
 def joined(one, other):
     """The machine that takes what at least one of two machines takes."""
-    return _side_by_side(one, other, lambda left, right: left or right)
+    _check_alike(one, other)
+    return least_from(any_of(one.letters, one.tapes, [rough_of(one), rough_of(other)]))
 
 
 def met(one, other):
     """The machine that takes what both of two machines take."""
-    return _side_by_side(one, other, lambda left, right: left and right)
+    _check_alike(one, other)
+    return least_from(every_of(one.letters, one.tapes, [rough_of(one), rough_of(other)]))
 
 
 def less(one, other):
     """The machine that takes what the first machine takes and the second one does not."""
-    return _side_by_side(one, other, lambda left, right: left and not right)
+    _check_alike(one, other)
+    return least_from(every_of(one.letters, one.tapes, [rough_of(one), rough_turned(rough_of(other))]))
 
 
 def turned(machine):

@@ -1,44 +1,78 @@
 """Machines behind programs, and machines written by programs."""
 
 from fewbreak.errors import UnlikeParts, UnlikeTapes
-from fewbreak.least import least, least_of
-from fewbreak.sides import check_tapes, code_place, column_codes
-from fewbreak.walks import determined, ends_ahead, walked
+from fewbreak.least import Rough, least_from, least_of, rough_of
+from fewbreak.sides import check_tapes
+from fewbreak.walks import determined, ends_ahead, numbered, walked
 
 DROPPED = ()
 
 
-def _moves_of(program):
+def _moves_of(program, firsts):
     """For each standing of a program, and at the end for a run that has ended, what comes of each item of a column.
 
-    This is None if the run is dropped, or goes on behind its end; otherwise the written item and the next standing.
-    Items are numbers as in the codes of columns.
+    This is None if the run is dropped; otherwise the written item and the next standing. Behind the end of a run all
+    items are as `#`. The items are 0 for `#` and then the letters with some places; a written item is a number as in
+    codes of columns.
     """
     ended = program.standings
     found = []
     for row, end in zip(program.rows, program.ends):
         moves = [(0, ended) if end else None]
-        for line in row:
+        for first in firsts:
+            line = row[first]
             moves.append(None if line is None else (program.write.place(line[0]) + 1, line[1]))
         found.append(moves)
-    found.append([(0, ended)] + [None] * len(program.read))
+    found.append([(0, ended)] * (len(firsts) + 1))
     return found
 
 
-def _step(moves, taker, ahead, key, code):
-    """The key behind a key: the standing of the machine that reads what is written, then those at the tapes."""
-    written = []
-    after = []
-    for standing, item in zip(key[1:], code):
-        move = moves[standing][item]
-        if move is None:
+def _with_tape(ways, moves, base):
+    """Ways to read some tapes, made longer by one tape: pairs of what is written and the next standings, or None."""
+    return [None if way is None or move is None else (way[0] * base + move[0], way[1] + (move[1],))
+            for way in ways for move in moves]
+
+
+def _classes_by_items(items, tapes, many):
+    """For each column the number of the column of items that it stands for, by the items of its letters."""
+    codes = [0]
+    for _ in range(tapes):
+        codes = [code * many + item for code in codes for item in items]
+    return [code - 1 for code in codes[1:]]
+
+
+def rough_behind(program, rough):
+    """The rough machine behind a program, over the letters that the program reads."""
+    # letters of which the program makes the same everywhere are one
+    rows = program.rows
+    items, firsts = numbered(list(zip(*rows)))
+    base = len(program.write) + 1
+    moves = _moves_of(program, firsts)
+    ahead = ends_ahead(rough.rows, rough.ends)
+    many = len(firsts) + 1
+    classes = _classes_by_items([0] + [item + 1 for item in items], rough.tapes, many)
+    dropped_row = [DROPPED] * (max(classes) + 1)
+
+    def key_behind(standing, way):
+        if way is None:
             return DROPPED
-        written.append(move[0])
-        after.append(move[1])
-    target = taker.rows[key[0]][code_place(taker.letters, written)]
-    if not ahead[target]:
-        return DROPPED
-    return tuple([target] + after)
+        code, after = way
+        # the code 0 comes where all runs have ended
+        target = standing if code == 0 else rough.rows[standing][rough.classes[code - 1]]
+        return (target,) + after if ahead[target] else DROPPED
+
+    def nexts_of(key):
+        if key == DROPPED:
+            return dropped_row
+        ways = [(0, ())]
+        for standing in key[1:]:
+            ways = _with_tape(ways, moves[standing], base)
+        return [key_behind(key[0], way) for way in ways[1:]]
+
+    keys, found = walked((0,) * (rough.tapes + 1), nexts_of)
+    whole = list(program.ends) + [True]
+    ends = [key != DROPPED and rough.ends[key[0]] and all([whole[standing] for standing in key[1:]]) for key in keys]
+    return Rough(program.read, rough.tapes, classes, found, ends)
 
 
 def behind(program, machine):
@@ -46,22 +80,7 @@ def behind(program, machine):
     if program.write != machine.letters:
         raise UnlikeParts(str(program.write), str(machine.letters))
     check_tapes(program.read, machine.tapes)
-    taker = least(machine)
-    ahead = ends_ahead(taker.rows, taker.ends)
-    moves = _moves_of(program)
-    codes = column_codes(program.read, taker.tapes)
-
-    def nexts_of(key):
-        if key == DROPPED:
-            return [DROPPED] * len(codes)
-        return [_step(moves, taker, ahead, key, code) for code in codes]
-
-    keys, rows = walked((0,) * (taker.tapes + 1), nexts_of)
-    whole = list(program.ends) + [True]
-    ends = []
-    for key in keys:
-        ends.append(key != DROPPED and taker.ends[key[0]] and all([whole[standing] for standing in key[1:]]))
-    return least_of(program.read, taker.tapes, rows, ends)
+    return least_from(rough_behind(program, rough_of(machine)))
 
 
 def passed(program, machine):

@@ -42,8 +42,20 @@ def _code_at(base, tapes, place):
 
 def column_codes(letters, tapes):
     """The list of the codes of the columns, in order."""
-    base = len(letters) + 1
-    return [_code_at(base, tapes, place) for place in range(many_columns(letters, tapes))]
+    items = list(range(len(letters) + 1))
+    codes = [()]
+    for _ in range(tapes):
+        codes = [code + (item,) for code in codes for item in items]
+    return codes[1:]
+
+
+def ended_masks(letters, tapes):
+    """For each column, in order, the tapes at which it has `#`, as the bits of a number."""
+    masks = [0]
+    for tape in range(tapes):
+        bits = [1 << tape] + [0] * len(letters)
+        masks = [mask + bit for mask in masks for bit in bits]
+    return masks[1:]
 
 
 def code_place(letters, code):

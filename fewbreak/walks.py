@@ -15,14 +15,28 @@ def walked(start, nexts_of):
     rows = []
     while len(rows) < len(keys):
         nexts = nexts_of(keys[len(rows)])
-        row = []
         for key in nexts:
             if key not in numbers:
                 numbers[key] = len(keys)
                 keys.append(key)
-            row.append(numbers[key])
-        rows.append(row)
+        rows.append([numbers[key] for key in nexts])
     return keys, rows
+
+
+def numbered(keys):
+    """For each item of a list the number of its kind, and for each kind the first index at which it stands.
+
+    Equal items are of one kind; the kinds are numbered as they come.
+    """
+    numbers = {}
+    found = []
+    firsts = []
+    for at, key in enumerate(keys):
+        if key not in numbers:
+            numbers[key] = len(firsts)
+            firsts.append(at)
+        found.append(numbers[key])
+    return found, firsts
 
 
 def ends_ahead(rows, ends):

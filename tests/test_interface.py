@@ -26,6 +26,23 @@ FUNCTIONS = {
     "looks": {"narrowed": "(letters, names)", "look": "(letters, names)", "blot": "(letters, name)",
               "behind_each_other": "(first, second)"},
     "passing": {"behind": "(program, machine)", "passed": "(program, machine)"},
+    "rules": {"all_rule": "(letters)", "none_rule": "(letters)", "each": "(machine)", "bar": "(machine)",
+              "same": "(letters, *names)", "led": "(letters, before, after)", "both": "(letters, *rules)",
+              "either": "(first, *others)", "gives": "(one, other)", "few": "(most, rule)",
+              "carried": "(program, rule)"},
+    "meaning": {"lot_keeps": "(rule, lot)", "least_broken": "(rule, lot)", "run_keeps": "(rule, run)"},
+    "besides": {"beside": "(lot, rule)"},
+    "ruletexts": {"read_rule": "(letters, text, *, things_named=(), rules_named=())", "names_in": "(text)"},
+    "broken": {"check_room": "(rule, tapes)", "broken_rows": "(rule, tapes)", "kept_rows": "(rule, tapes)"},
+    "follows": {"follows": "(rules, wish)", "is_against": "(rules, wish, lot)"},
+    "ranks": {"rank": "(rule)", "ladder": "(rule)", "alike": "(one, other)"},
+    "forms": {"form": "(rule)", "bar_of": "(rule)"},
+    "tables": {"table": "(rules, wish)", "table_fault": "(rules, wish, rows)"},
+    "weakest": {"weakest": "(rules, wish)", "sides_of": "(rules, wishes)"},
+    "carrying": {"carries": "(before, program, after)", "programs_part": "(one, other, rule)", "unseen": "(rule)"},
+    "yokes": {"check_sides": "(letters, sides)", "yoke": "(rules, wish)", "yoked_lot": "(letters, sides, lots)"},
+    "pours": {"pours": "(rules, wish)", "pours_not": "(rules, wish, coloured)"},
+    "deals": {"dealt": "(rule, names)", "deal": "(letters, lot, names)"},
 }
 METHODS = {
     "letters": {"Letters": {
@@ -41,6 +58,11 @@ METHODS = {
         "__init__": "(self, read, write, rows, ends, *, program_name='made')", "standings": "property",
         "line_of": "(self, standing, letter)", "is_end": "(self, standing)", "written": "(self, run)",
         "written_lot": "(self, lot)", "__repr__": None, "__eq__": None, "__len__": None}},
+    "rules": {"Rule": {
+        "__init__": "(self, kind, letters, *, rules=(), machine=None, program=None, before=None, after=None, lot=None, "
+                    "most=None)",
+        "__and__": None, "__or__": None, "__rshift__": None, "__str__": None, "__eq__": None, "__repr__": None}},
+    "forms": {"Form": {"__init__": "(self, runs, machine)", "__eq__": None, "__repr__": None}},
 }
 GENERATORS = {("sides", "columns"), ("rows", "taken_rows")}
 
