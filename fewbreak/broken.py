@@ -157,11 +157,11 @@ def _beside_runs(rough, runs):
     tapes = rough.tapes - len(runs)
     codes = [column_place(letters, column) + 1 for column in columns_of(runs)] + [0]
     span = many_columns(letters, len(runs)) + 1
-    columns = []
+    found = []
     for place in range(many_columns(letters, tapes)):
-        columns.append(tuple([rough.classes[(place + 1) * span + code - 1] for code in codes]))
-    classes, firsts = numbered(columns)
-    kinds = [columns[first] for first in firsts]
+        found.append(tuple([rough.classes[(place + 1) * span + code - 1] for code in codes]))
+    classes, firsts = numbered(found)
+    kinds = [found[first] for first in firsts]
     last = len(codes) - 1
 
     # a key is a standing and how many letters of the runs were read; behind all of them they have `#`

@@ -21,11 +21,11 @@ def programs_part(one, other, rule):
         raise UnlikeParts(str(one.read), str(other.read))
     left = carried(one, rule)
     right = carried(other, rule)
+    # both rules have one number, so the other way round there is nothing more to look at
     check_asked([left], right)
-    check_asked([right], left)
-    lot = first_against([left], right, right.number)
+    lot = first_against([left], right)
     if lot is None:
-        lot = first_against([right], left, left.number)
+        lot = first_against([right], left)
     return lot
 
 

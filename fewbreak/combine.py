@@ -31,17 +31,19 @@ def any_of(letters, tapes, parts):
     known = {}
 
     def key_of(target):
-        if target not in known:
-            # one machine that will take is enough, whatever the others do
-            won = any([flags[standing] for flags, standing in zip(wons, target)])
-            known[target] = WON if won else target
-        return known[target]
+        # one machine that will take is enough, whatever the others do
+        won = any([flags[standing] for flags, standing in zip(wons, target)])
+        return WON if won else target
 
     def nexts_of(key):
         if key == WON:
             return [WON] * len(firsts)
         rows = [table[standing] for table, standing in zip(tables, key)]
-        return [key_of(target) for target in zip(*rows)]
+        targets = list(zip(*rows))
+        for target in targets:
+            if target not in known:
+                known[target] = key_of(target)
+        return [known[target] for target in targets]
 
     keys, found = walked(key_of((0,) * len(parts)), nexts_of)
     ends = [key == WON or any([part.ends[standing] for part, standing in zip(parts, key)]) for key in keys]

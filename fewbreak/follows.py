@@ -1,6 +1,6 @@
 """Whether rules follow to a wish, and the first lots that tell that they do not."""
 
-from fewbreak.broken import check_room, rough_broken
+from fewbreak.broken import check_room, lifts, rough_broken
 from fewbreak.least import aligned, filled_only, rough_turned
 from fewbreak.meaning import lot_keeps
 from fewbreak.rules import check_letters
@@ -63,17 +63,37 @@ def first_taken(parts, most=None):
     return runs_of([column_at(letters, tapes, firsts[step]) for step in way], tapes)
 
 
+def rank_from(rule, most):
+    """The rank of a rule, which is at most so great; for so many tapes there must be room."""
+    for tapes in range(most, 0, -1):
+        fewer = [rough_turned(part) for part in lifts(rule, tapes - 1, tapes)]
+        if first_taken([rough_broken(rule, tapes)] + fewer) is not None:
+            return tapes
+    return 0
+
+
+def few_enough(rule):
+    """The rank of a rule for whose number there is room."""
+    if rule.rank_found is None:
+        rule.rank_found = rank_from(rule, rule.number)
+    return rule.rank_found
+
+
+def many_enough(rule):
+    """So many runs that each lot that breaks a rule has a part with no more that breaks it."""
+    # the rank is enough, but it is worth its search only where it may save tapes of many columns
+    return rule.number if rule.number < 3 else few_enough(rule)
+
+
 def _first_row_against(rules, wish, tapes, most=None):
     """The first row, with at most so many columns, whose lot keeps some rules and breaks a wish; None without one."""
     parts = [rough_turned(rough_broken(rule, tapes)) for rule in rules]
     return first_taken([rough_broken(wish, tapes)] + parts, most)
 
 
-def first_against(rules, wish, tapes):
-    """The first lot that keeps some rules and breaks a wish, None without one.
-
-    Each lot that breaks the wish has a part with at most as many runs as there are tapes that breaks it, too.
-    """
+def first_against(rules, wish):
+    """The first lot that keeps some rules and breaks a wish, None without one."""
+    tapes = many_enough(wish)
     if tapes == 0:
         return None
     row = _first_row_against(rules, wish, tapes)
@@ -91,15 +111,14 @@ def first_against(rules, wish, tapes):
 def check_asked(rules, wish):
     """Raises the errors of asking whether rules follow to a wish."""
     check_letters(wish.letters, rules)
-    if wish.number > 0:
-        for rule in [wish] + list(rules):
-            check_room(rule, wish.number)
+    for rule in [wish] + list(rules):
+        check_room(rule, wish.number)
 
 
 def follows(rules, wish):
     """None if rules follow to a wish, otherwise the first lot against it."""
     check_asked(rules, wish)
-    return first_against(rules, wish, wish.number)
+    return first_against(rules, wish)
 
 
 def is_against(rules, wish, lot):

@@ -1,7 +1,7 @@
 """The forms of rules: two rules over the same letters are kept by the same lots if they have one form."""
 
-from fewbreak.broken import broken_machine, check_room
-from fewbreak.ranks import few_enough
+from fewbreak.broken import broken_machine
+from fewbreak.ranks import rank
 from fewbreak.rules import all_rule, bar
 
 
@@ -20,27 +20,19 @@ class Form:
         return f"Form({self.runs} runs, {standings} standings)"
 
 
-def form_in_room(rule):
-    """The form of a rule for whose number there is room."""
-    runs = few_enough(rule)
+def form(rule):
+    """The form of a rule."""
+    runs = rank(rule)
     return Form(runs, broken_machine(rule, runs) if runs > 0 else None)
 
 
-def bar_in_room(rule):
-    """As bar_of, for a rule for whose number there is room."""
-    found = form_in_room(rule)
-    if found.runs == 0:
+def bar_with_rank(rule, runs):
+    """The bar of the machine of the form of a rule with a rank, or the rule all for the rank 0."""
+    if runs == 0:
         return all_rule(rule.letters)
-    return bar(found.machine)
-
-
-def form(rule):
-    """The form of a rule."""
-    check_room(rule, rule.number)
-    return form_in_room(rule)
+    return bar(broken_machine(rule, runs))
 
 
 def bar_of(rule):
     """The bar of the machine of the form of a rule, or the rule all for the rank 0."""
-    check_room(rule, rule.number)
-    return bar_in_room(rule)
+    return bar_with_rank(rule, rank(rule))

@@ -231,8 +231,8 @@ def aligned(parts):
     This is the class of each column, which all of them share, the first column of each class, and for each of the
     machines its rows by these classes. The classes are numbered by their first columns.
     """
-    columns = [part.classes for part in parts]
-    classes, firsts = numbered(list(zip(*columns)))
+    of_parts = [part.classes for part in parts]
+    classes, firsts = numbered(list(zip(*of_parts)))
     tables = []
     for part in parts:
         picks = [part.classes[first] for first in firsts]

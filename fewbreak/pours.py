@@ -3,7 +3,7 @@
 from fewbreak.broken import rough_broken
 from fewbreak.choosing import picked
 from fewbreak.errors import BadRun, TooMany
-from fewbreak.follows import check_asked, first_taken
+from fewbreak.follows import check_asked, first_taken, many_enough
 from fewbreak.least import rough_turned
 from fewbreak.meaning import lot_keeps
 from fewbreak.rules import check_letters
@@ -32,25 +32,25 @@ def _first_row_with(rules, wish, colours, most):
     return first_taken(parts, most)
 
 
-def _shortest(rules, wish):
+def _shortest(rules, wish, most_tapes):
     """The number of columns of the shortest rows that show that rules do not pour to a wish; None without one.
 
-    Rows whose runs stand twice count, too, so it is enough to look at rows with as many runs as possible.
+    Rows whose runs stand twice count, too, so it is enough to look at rows with as many runs as can be needed.
     """
     most = None
-    for colours in _colourings(len(rules), wish.number):
+    for colours in _colourings(len(rules), most_tapes):
         row = _first_row_with(rules, wish, colours, most)
         if row is not None:
             most = len(columns_of(row))
     return most
 
 
-def _first_coloured(rules, wish):
-    """The first coloured row, for a wish with a number above 0."""
-    length = _shortest(rules, wish)
+def _first_coloured(rules, wish, most_tapes):
+    """The first coloured row, where no more tapes can be needed; there are rules and tapes."""
+    length = _shortest(rules, wish, most_tapes)
     if length is None:
         return None
-    for tapes in range(1, wish.number + 1):
+    for tapes in range(1, most_tapes + 1):
         for colours in _colourings(len(rules), tapes):
             row = _first_row_with(rules, wish, colours, length)
             if row is not None:
@@ -63,9 +63,10 @@ def pours(rules, wish):
     if len(rules) > MOST_RULES:
         raise TooMany("rules", len(rules))
     check_asked(rules, wish)
-    if not rules or wish.number == 0:
+    if not rules:
         return None
-    return _first_coloured(rules, wish)
+    most_tapes = many_enough(wish)
+    return _first_coloured(rules, wish, most_tapes) if most_tapes > 0 else None
 
 
 def pours_not(rules, wish, coloured):

@@ -1,18 +1,8 @@
 """The ranks of rules, which tell how few runs are enough to break them."""
 
-from fewbreak.broken import broken_machine, check_room, lifts, rough_broken
-from fewbreak.follows import first_against, first_taken
-from fewbreak.least import rough_turned
+from fewbreak.broken import broken_machine, check_room
+from fewbreak.follows import few_enough, first_against
 from fewbreak.rules import Rule, check_letters
-
-
-def few_enough(rule):
-    """The rank of a rule for whose number there is room."""
-    for tapes in range(rule.number, 0, -1):
-        fewer = [rough_turned(part) for part in lifts(rule, tapes - 1, tapes)]
-        if first_taken([rough_broken(rule, tapes)] + fewer) is not None:
-            return tapes
-    return 0
 
 
 def rank(rule):
@@ -23,11 +13,10 @@ def rank(rule):
 
 def ladder(rule):
     """For each number below the rank, the first lot that breaks a rule while its parts with so many runs keep it."""
-    most = rank(rule)
     found = []
-    for size in range(most):
+    for size in range(rank(rule)):
         few_keep = Rule("few", rule.letters, rules=(rule,), most=size)
-        found.append(first_against([few_keep], rule, most))
+        found.append(first_against([few_keep], rule))
     return found
 
 

@@ -47,8 +47,8 @@ def _front(rule):
 class Rule:
     """A rule. It never changes, and nor does what it is kept by.
 
-    So the machines of its broken rows that were worked out are held by it, by their tapes: `rough_found` has rough
-    machines, and `least_found` has least ones. They are for the module broken alone.
+    So what was worked out is held by it: machines of its broken rows by their tapes, rough ones in `rough_found` and
+    least ones in `least_found`, and its rank in `rank_found`. They are for the modules broken and follows alone.
     """
 
     KINDS = ("all", "none", "each", "bar", "same", "led", "both", "either", "gives", "few", "carried", "beside")
@@ -69,6 +69,7 @@ class Rule:
         self.told_runs = sum([rule.told_runs for rule in rules]) + (0 if lot is None else len(lot))
         self.rough_found = {}
         self.least_found = {}
+        self.rank_found = None
 
     def __and__(self, other):
         return both(self.letters, self, other)

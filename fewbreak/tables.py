@@ -27,7 +27,7 @@ def _nexts(tables, key):
 def table(rules, wish):
     """The ascending list of the tuples of standings that are reached side by side, for rules that follow to a wish."""
     check_asked(rules, wish)
-    lot = first_against(rules, wish, wish.number)
+    lot = first_against(rules, wish)
     if lot is not None:
         raise NotSo(lot)
     if wish.number == 0:

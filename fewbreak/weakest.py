@@ -1,7 +1,7 @@
 """The weakest rules that are still wanted, and the wishes to which rules follow."""
 
-from fewbreak.follows import check_asked, follows
-from fewbreak.forms import bar_in_room
+from fewbreak.follows import check_asked, follows, many_enough, rank_from
+from fewbreak.forms import bar_with_rank
 from fewbreak.rules import Rule
 
 
@@ -10,7 +10,8 @@ def weakest(rules, wish):
     check_asked(rules, wish)
     # these two are not made for the caller: neither the limits of rules nor their common room is looked at
     before = Rule("both", wish.letters, rules=rules)
-    return bar_in_room(Rule("gives", wish.letters, rules=(before, wish)))
+    wanted = Rule("gives", wish.letters, rules=(before, wish))
+    return bar_with_rank(wanted, rank_from(wanted, many_enough(wish)))
 
 
 def sides_of(rules, wishes):

@@ -71,8 +71,8 @@ def _with_side(found, known, side, lot):
 
 def _run_of(letters, strips):
     """The run that has some strips at the parts of the letters."""
-    columns = [strips[name] for name in letters.names]
-    return tuple(["".join(signs) for signs in zip(*columns)])
+    in_order = [strips[name] for name in letters.names]
+    return tuple(["".join(signs) for signs in zip(*in_order)])
 
 
 def yoked_lot(letters, sides, lots):

@@ -1,11 +1,12 @@
+import itertools
 import random
 import unittest
 
 from fewbreak.combine import any_row
-from fewbreak.least import is_least, least, like
+from fewbreak.least import is_least, least, least_from, like, padded, rough_of, trimmed
 from fewbreak.letters import Letters
 from fewbreak.machines import Machine
-from plain import Case, IO, ONE, S, THREE, some_machine, taken
+from plain import Case, IO, ONE, S, THREE, columns_plain, some_machine, taken
 
 SIZES = ((ONE, 1, 6), (ONE, 2, 5), (ONE, 3, 4), (ONE, 4, 3), (S, 1, 6), (S, 2, 5), (S, 3, 3), (THREE, 2, 4), (IO, 1, 7))
 
@@ -132,6 +133,34 @@ class LeastTest(Case):
         before = (machine.rows, machine.ends, machine.name)
         least(machine)
         self.assertEqual((machine.rows, machine.ends, machine.name), before)
+
+
+class RoughTest(Case):
+    def test_padded(self):
+        """A padded machine reads behind the end of a run nothing but `#`, and takes the same rows."""
+        source = random.Random(12)
+        for letters, tapes, standings in SIZES:
+            machine = some_machine(letters, tapes, standings, 7)
+            rough = padded(rough_of(machine))
+            self.assertEqual(least_from(rough), least(machine))
+            columns = columns_plain(letters, tapes)
+            for _ in range(40):
+                found = [source.choice(columns) for _ in range(source.randint(0, 5))]
+                row = [tuple(itertools.takewhile(lambda item: item != "#", run)) for run in zip(*found)]
+                standing = 0
+                for column in found:
+                    standing = rough.rows[standing][rough.classes[columns.index(column)]]
+                self.assertIs(rough.ends[standing], machine.takes(row if found else [()] * tapes))
+
+    def test_few_standings(self):
+        for letters, tapes, standings in SIZES:
+            rough = trimmed(padded(rough_of(some_machine(letters, tapes, standings, 3))))
+            self.assertLessEqual(len(rough.rows), 2 ** tapes * least_from(rough).standings)
+        self.assertEqual(len(padded(rough_of(any_row(S, 4))).rows), 1)
+
+    def test_classes(self):
+        rough = trimmed(padded(rough_of(any_row(S, 3))))
+        self.assertEqual((len(rough.rows[0]), set(rough.classes)), (1, {0}))
 
 
 if __name__ == "__main__":
