@@ -210,6 +210,13 @@ def rough_broken(rule, tapes):
     return rule.rough_found[tapes]
 
 
+def row_breaks(rule, row):
+    """Whether the lot of a row breaks a rule, for which there must be room for so many tapes."""
+    rough = rough_broken(rule, len(row))
+    codes = [column_place(rule.letters, column) + 1 for column in columns_of(row)]
+    return rough.ends[_led_on(rough, 0, codes)]
+
+
 def broken_machine(rule, tapes):
     """As broken_rows, for tapes for which there is room."""
     if tapes not in rule.least_found:

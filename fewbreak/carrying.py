@@ -8,10 +8,15 @@ from fewbreak.ranks import rank
 from fewbreak.rules import Rule, carried
 
 
+def check_reads(program, rule):
+    """Raises UnlikeParts if a program does not read what a rule is over."""
+    if program.read != rule.letters:
+        raise UnlikeParts(str(program.read), str(rule.letters))
+
+
 def carries(before, program, after):
     """None if what a program writes for each lot that keeps a rule keeps another one, otherwise the first lot."""
-    if program.read != before.letters:
-        raise UnlikeParts(str(program.read), str(before.letters))
+    check_reads(program, before)
     return follows([before], carried(program, after))
 
 

@@ -1,7 +1,7 @@
 """Machines with other tapes: chosen by picks, or with a tape dropped."""
 
 from fewbreak.errors import BadNumber, UnlikeTapes
-from fewbreak.least import Rough, least, least_from, least_of, rough_of
+from fewbreak.least import Rough, least_from, rough_of, rough_of_rows, trimmed
 from fewbreak.sides import check_tapes, code_place, column_codes
 from fewbreak.walks import determined, ends_ahead
 
@@ -43,14 +43,10 @@ def chosen(machine, tapes, picks):
     return least_from(picked(rough_of(machine), tapes, picks))
 
 
-def dropped(machine, tape):
-    """The machine of the other tapes that takes a row if some run can be put at the dropped one."""
-    if not 0 <= tape < machine.tapes:
-        raise BadNumber(tape)
-    if machine.tapes == 1:
-        raise UnlikeTapes(1, 2)
-    letters = machine.letters
-    old = least(machine)
+def rough_dropped(rough, tape):
+    """The rough machine of the other tapes that takes a row if some run can be put at the dropped one."""
+    letters = rough.letters
+    old = least_from(rough)
     labels = []
     for code in column_codes(letters, old.tapes):
         labels.append(code_place(letters, code[:tape] + code[tape + 1:]))
@@ -63,4 +59,13 @@ def dropped(machine, tape):
     ends = ends_ahead(alone, old.ends)
     many = max(labels) + 1
     rows, new_ends = determined(arrows, ends, many)
-    return least_of(letters, old.tapes - 1, rows, new_ends)
+    return trimmed(rough_of_rows(letters, old.tapes - 1, rows, new_ends))
+
+
+def dropped(machine, tape):
+    """The machine of the other tapes that takes a row if some run can be put at the dropped one."""
+    if not 0 <= tape < machine.tapes:
+        raise BadNumber(tape)
+    if machine.tapes == 1:
+        raise UnlikeTapes(1, 2)
+    return least_from(rough_dropped(rough_of(machine), tape))

@@ -152,7 +152,7 @@ def broken_parts(rule, runs):
     return breaks(rule, runs)
 
 
-def _checked_lot(rule, lot):
+def checked_lot(rule, lot):
     """The runs of a told lot in order; raises the errors of asking for the plain meaning."""
     runs = told_lot(rule.letters, lot)
     many = len(runs) + rule.told_runs
@@ -163,7 +163,7 @@ def _checked_lot(rule, lot):
 
 def lot_keeps(rule, lot):
     """Whether a told lot keeps a rule."""
-    return not broken_parts(rule, _checked_lot(rule, lot))[-1]
+    return not broken_parts(rule, checked_lot(rule, lot))[-1]
 
 
 def _is_least_broken(found, part, many):
@@ -175,7 +175,7 @@ def _is_least_broken(found, part, many):
 
 def least_broken(rule, lot):
     """The parts of a told lot that are least broken, those with fewer runs first, and then by their indexes."""
-    runs = _checked_lot(rule, lot)
+    runs = checked_lot(rule, lot)
     indexes = list(range(len(runs)))
     found = broken_parts(rule, runs)
     keys = []

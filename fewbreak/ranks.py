@@ -11,13 +11,15 @@ def rank(rule):
     return few_enough(rule)
 
 
+def rung(rule, size):
+    """The first lot that breaks a rule while its parts with so many runs keep it, None without one."""
+    few_keep = Rule("few", rule.letters, rules=(rule,), most=size)
+    return first_against([few_keep], rule)
+
+
 def ladder(rule):
     """For each number below the rank, the first lot that breaks a rule while its parts with so many runs keep it."""
-    found = []
-    for size in range(rank(rule)):
-        few_keep = Rule("few", rule.letters, rules=(rule,), most=size)
-        found.append(first_against([few_keep], rule))
-    return found
+    return [rung(rule, size) for size in range(rank(rule))]
 
 
 def alike(one, other):

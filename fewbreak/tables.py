@@ -24,17 +24,25 @@ def _nexts(tables, key):
     return list(zip(*rows))
 
 
-def table(rules, wish):
-    """The ascending list of the tuples of standings that are reached side by side, for rules that follow to a wish."""
+def table_or_lot(rules, wish):
+    """The pair of the table of rules that follow to a wish and None, or of None and the first lot against it."""
     check_asked(rules, wish)
     lot = first_against(rules, wish)
     if lot is not None:
-        raise NotSo(lot)
+        return None, lot
     if wish.number == 0:
-        return []
+        return [], None
     tables = _tables(_machines(rules, wish))
     keys, _ = walked((0,) * len(tables), lambda key: _nexts(tables, key))
-    return sorted(keys)
+    return sorted(keys), None
+
+
+def table(rules, wish):
+    """The ascending list of the tuples of standings that are reached side by side, for rules that follow to a wish."""
+    found, lot = table_or_lot(rules, wish)
+    if lot is not None:
+        raise NotSo(lot)
+    return found
 
 
 def _fits(machines, key):

@@ -6,6 +6,7 @@ import random
 import unittest
 
 from fewbreak.besides import beside
+from fewbreak.combine import joined, no_row, only_row
 from fewbreak.errors import BreaksBeside
 from fewbreak.letters import Letters, read_letters
 from fewbreak.machines import Machine
@@ -294,3 +295,39 @@ class LotsCase(Case):
         if found is not None:
             self.assertIs(type(found), list)
             self.assertTrue(demand(found))
+
+
+def machine_of(letters, lot):
+    """The machine of one tape that takes just the runs of a told lot."""
+    found = no_row(letters, 1)
+    for run in lot:
+        found = joined(found, only_row(letters, [run]))
+    return found
+
+
+def some_lot(letters, source, most, length=2):
+    """At most so many short runs, in any order."""
+    held = runs(letters, length)
+    return source.sample(held, min(len(held), source.randint(0, most)))
+
+
+def in_order(letters, lot):
+    """The runs of a lot in the order of the document, without duplicates."""
+    return sorted(set(lot), key=lambda run: (len(run), [letters.listed().index(letter) for letter in run]))
+
+
+def greatest_parts(rule, lot):
+    """The greatest parts of a told lot, which is in order, that keep a rule, in the order of the document."""
+    kept = [part for part in parts(lot) if keeps(rule, part)]
+    found = [part for part in kept if not any(set(part) < set(other) for other in kept)]
+    return [list(part) for part in sorted(found, key=lambda part: (-len(part), [lot.index(run) for run in part]))]
+
+
+def five(letters):
+    """A rule with the number 5."""
+    return either(same(letters), same(letters), none_rule(letters))
+
+
+def zero(letters):
+    """A rule with the number 0 that has no room for any tapes."""
+    return gives(beside([], five(letters)), all_rule(letters))

@@ -1,4 +1,4 @@
-"""The names, parameters and kinds of the interface, as far as it has landed."""
+"""The names, parameters and kinds of the interface, and the conventions that hold for all of it."""
 
 import ast
 import importlib
@@ -43,6 +43,18 @@ FUNCTIONS = {
     "yokes": {"check_sides": "(letters, sides)", "yoke": "(rules, wish)", "yoked_lot": "(letters, sides, lots)"},
     "pours": {"pours": "(rules, wish)", "pours_not": "(rules, wish, coloured)"},
     "deals": {"dealt": "(rule, names)", "deal": "(letters, lot, names)"},
+    "kept": {"keeps": "(machine, rule)", "alone": "(rule)", "clash": "(machine, rule)"},
+    "blame": {"blameless": "(machine, rule)", "blame": "(machine, rule, run)"},
+    "coming": {"may_come": "(rule, lot)"},
+    "together": {"yoked": "(letters, machines)", "poured": "(first, *others)"},
+    "told": {"greatest": "(rule, lot)", "struck": "(rule, lot)", "staying": "(rule, lot)"},
+    "answers": {"lead": "(one, other, lot)", "through": "(first, *others)"},
+    "vectors": {"vectors": "(stock, wish, *, known_rules=())", "enough": "(stock, picked, wish, *, known_rules=())"},
+    "choices": {"choices": "(stock, wish, *, known_rules=())",
+                "cheapest": "(stock, wish, *, known_rules=(), unit_prices=None)"},
+    "plans": {"plan": "(questions, wish, lot)", "plan_depth": "(questions, wish, lot)",
+              "is_plan": "(questions, wish, lot, pairs)"},
+    "entries": {"is_deed": "(deed)", "read_entries": "(deeds)"},
 }
 METHODS = {
     "letters": {"Letters": {
@@ -63,8 +75,25 @@ METHODS = {
                     "most=None)",
         "__and__": None, "__or__": None, "__rshift__": None, "__str__": None, "__eq__": None, "__repr__": None}},
     "forms": {"Form": {"__init__": "(self, runs, machine)", "__eq__": None, "__repr__": None}},
+    "live": {"Live": {
+        "__init__": "(self, rule, lot=())", "many": "property", "put_in": "(self, run)", "take_out": "(self, run)",
+        "change": "(self, old, new)", "set_rule": "(self, rule)", "told": "(self)", "stands": "(self)",
+        "broken_parts": "(self)", "greatest_parts": "(self)", "struck_runs": "(self)", "staying_runs": "(self)",
+        "__contains__": None, "__len__": None, "__bool__": None}},
+    "growing": {"Growing": {
+        "__init__": "(self, rule, many)", "many": "property", "grow": "(self, at, letter)", "finish": "(self, at)",
+        "step_back": "(self)", "so_far": "(self)", "finished": "(self)", "verdict": "(self)",
+        "way_on": "(self, *, breaking=True)"}},
+    "desk": {"Desk": {
+        "__init__": "(self)", "in_draft": "property", "do": "(self, deed)", "do_all": "(self, deeds)", "undo": "(self)",
+        "redo": "(self)", "begin": "(self)", "keep": "(self)", "throw": "(self)", "entry_names": "(self)",
+        "thing": "(self, name)", "deed": "(self, name)", "used": "(self, name)", "steps": "(self)", "played": "static",
+        "__contains__": None, "__len__": None, "__bool__": None}},
+    "asking": {"Asker": {
+        "__init__": "(self, desk)", "worked": "property", "ask": "(self, question)",
+        "judged": "(self, question, answer)"}},
 }
-GENERATORS = {("sides", "columns"), ("rows", "taken_rows")}
+GENERATORS = {("sides", "columns"), ("rows", "taken_rows"), ("choices", "choices")}
 
 
 def defined(module):
@@ -104,6 +133,9 @@ class InterfaceTest(unittest.TestCase):
                     method = vars(getattr(held, class_name))[name]
                     if parameters == "property":
                         self.assertIsInstance(method, property)
+                    elif parameters == "static":
+                        self.assertIsInstance(method, staticmethod)
+                        self.assertEqual(str(inspect.signature(method.__func__)), "(steps)")
                     elif parameters is not None:
                         self.assertEqual(str(inspect.signature(method)), parameters, name)
 
